@@ -1,0 +1,298 @@
+package tests
+
+import (
+	"fmt"
+	"math"
+	"reflect"
+	"slices"
+	"strings"
+	"testing"
+
+	"loop.example/g01146/impl"
+)
+
+// Promise 11: every function accepts all arguments without panicking and modifies none of them.
+
+// landed has the functions of the chapters that have landed.
+func landed() map[string]any {
+	return map[string]any{
+		"IsGraph": impl.IsGraph, "GraphOf": impl.GraphOf, "EdgesOf": impl.EdgesOf, "TogglesOf": impl.TogglesOf,
+		"PressButton": impl.PressButton, "PressAll": impl.PressAll, "PressWord": impl.PressWord, "EffectOf": impl.EffectOf,
+		"PathGraph": impl.PathGraph, "CircleGraph": impl.CircleGraph, "GridGraph": impl.GridGraph, "TorusGraph": impl.TorusGraph,
+		"FullGraph": impl.FullGraph, "WithOwn": impl.WithOwn, "RenameGraph": impl.RenameGraph, "JoinGraphs": impl.JoinGraphs,
+		"DegreesOf": impl.DegreesOf, "GraphText": impl.GraphText, "ParseGraph": impl.ParseGraph,
+	}
+}
+
+func goodGraphs() []impl.Graph {
+	return []impl.Graph{
+		modelOf(1, false).graph(), modelOf(1, true).graph(), modelOf(2, true, [2]int{0, 1}).graph(), modelOf(3, false).graph(),
+		modelOf(3, true, [2]int{0, 1}, [2]int{1, 2}).graph(), modelOf(16, false, [2]int{0, 15}).graph(), fullModel(16, true).graph(),
+	}
+}
+
+// choices gives values of each type that a function takes, valid and invalid ones.
+func choices() map[reflect.Type][]reflect.Value {
+	all := map[reflect.Type][]reflect.Value{}
+	add := func(x any) {
+		v := reflect.ValueOf(x)
+		all[v.Type()] = append(all[v.Type()], v)
+	}
+	for _, g := range append(goodGraphs(), badGraphs()...) {
+		add(g)
+	}
+	for _, x := range []int{0, 1, 2, 3, 5, 7, 15, 16, 17, 63, 64, 65, 200, 65535, 65536, power(62), -1, -2, -16, -64, math.MaxInt, math.MinInt} {
+		add(x)
+	}
+	for _, list := range [][]int{nil, {}, {0}, {1}, {-1}, {0, 1}, {1, 0}, {2, 0, 1}, {0, 1, 2}, {0, 0, 0}, {0, 1, 2, 3}, {16}, {64}, {math.MaxInt}, {math.MinInt, 0}, filled(200, 0), filled(201, 0),
+		{15, 14, 13, 12, 11, 10, 9, 8, 7, 6, 5, 4, 3, 2, 1, 0}} {
+		add(list)
+	}
+	for _, lists := range [][][]int{nil, {}, {nil}, {{}}, {{0}}, {{0, 1}}, {{1, 0}, {0, 1}}, {{0, 1}, {1, 2}}, {{0, 1}, nil}, {{0, 0}}, {{0, 1, 2}}, {{-1, 0}}, {{0, 16}}, {{0, 64}},
+		{{math.MinInt, math.MaxInt}}, slices.Repeat([][]int{{0, 1}}, 200), slices.Repeat([][]int{{0, 1}}, 201)} {
+		add(lists)
+	}
+	for _, s := range []string{"", ":", "3+:0-1,1-2", "1:-", "16:0-15", "17:-", "3:0-3", "3:1-0", "-", "+", "3", "3:", "\x00", "\xff:\xff-\xff", "99999999999999999999:-", strings.Repeat("9", 3000), strings.Repeat("1:0-1,", 900)} {
+		add(s)
+	}
+	add(false)
+	add(true)
+	return all
+}
+
+// fresh copies a value with all that it holds; each slice gets a spare capacity that holds valid values.
+func fresh(v reflect.Value, spare int) reflect.Value {
+	switch v.Kind() {
+	case reflect.Slice:
+		n := v.Len()
+		list := reflect.MakeSlice(v.Type(), n+spare, n+spare)
+		for k := range n {
+			list.Index(k).Set(fresh(v.Index(k), spare))
+		}
+		for k := range spare {
+			list.Index(n + k).Set(filler(v.Type().Elem(), k))
+		}
+		return list.Slice(0, n)
+	case reflect.Struct:
+		s := reflect.New(v.Type()).Elem()
+		for k := range v.NumField() {
+			s.Field(k).Set(fresh(v.Field(k), spare))
+		}
+		return s
+	}
+	return v
+}
+
+func filler(t reflect.Type, k int) reflect.Value {
+	if t.Kind() == reflect.Slice {
+		return reflect.ValueOf([]int{k, k + 1})
+	}
+	return reflect.ValueOf(k)
+}
+
+// picture tells a value as a text, with the spare capacities if whole is true.
+func picture(v reflect.Value, whole bool) string {
+	var b strings.Builder
+	switch v.Kind() {
+	case reflect.Slice:
+		if whole {
+			fmt.Fprint(&b, v.Len(), " of ")
+			v = v.Slice(0, v.Cap())
+		}
+		for k := range v.Len() {
+			b.WriteString(picture(v.Index(k), whole) + " ")
+		}
+		return "[" + b.String() + "]"
+	case reflect.Struct:
+		for k := range v.NumField() {
+			b.WriteString(picture(v.Field(k), whole) + " ")
+		}
+		return "{" + b.String() + "}"
+	}
+	return fmt.Sprintf("%.80q", fmt.Sprint(v.Interface()))
+}
+
+func pictures(list []reflect.Value, whole bool) string {
+	var b strings.Builder
+	for _, v := range list {
+		b.WriteString(picture(v, whole) + "; ")
+	}
+	return b.String()
+}
+
+// span is a stretch of memory.
+type span struct{ from, to uintptr }
+
+func spansOf(v reflect.Value) []span {
+	var spans []span
+	switch v.Kind() {
+	case reflect.Slice:
+		if v.Cap() > 0 {
+			spans = append(spans, span{v.Pointer(), v.Pointer() + uintptr(v.Cap())*v.Type().Elem().Size()})
+		}
+		for k := range v.Len() {
+			spans = append(spans, spansOf(v.Index(k))...)
+		}
+	case reflect.Struct:
+		for k := range v.NumField() {
+			spans = append(spans, spansOf(v.Field(k))...)
+		}
+	}
+	return spans
+}
+
+func isApart(spans []span) bool {
+	slices.SortFunc(spans, func(a, b span) int { return int(a.from) - int(b.from) })
+	for k := 1; k < len(spans); k++ {
+		if spans[k].from < spans[k-1].to {
+			return false
+		}
+	}
+	return true
+}
+
+// scribble writes over all that a result holds, to its capacity.
+func scribble(v reflect.Value) {
+	switch v.Kind() {
+	case reflect.Slice:
+		v = v.Slice(0, v.Cap())
+		for k := range v.Len() {
+			scribble(v.Index(k))
+		}
+	case reflect.Struct:
+		for k := range v.NumField() {
+			if v.Field(k).Kind() == reflect.Slice {
+				scribble(v.Field(k))
+			}
+		}
+	case reflect.Int:
+		v.SetInt(-77)
+	}
+}
+
+func isNothing(v reflect.Value) bool {
+	switch v.Kind() {
+	case reflect.Slice:
+		return v.Len() == 0
+	case reflect.Struct:
+		for k := range v.NumField() {
+			if !isNothing(v.Field(k)) {
+				return false
+			}
+		}
+		return true
+	}
+	return v.IsZero()
+}
+
+// scribbleAll leaves single numbers alone: they are copies.
+func scribbleAll(results []reflect.Value) {
+	for _, v := range results {
+		if v.Kind() == reflect.Slice || v.Kind() == reflect.Struct {
+			scribble(v)
+		}
+	}
+}
+
+func copies(arguments []reflect.Value, spare int) []reflect.Value {
+	var list []reflect.Value
+	for _, v := range arguments {
+		list = append(list, fresh(v, spare))
+	}
+	return list
+}
+
+func checkCall(t *testing.T, name string, f reflect.Value, arguments []reflect.Value) {
+	defer func() {
+		if p := recover(); p != nil {
+			t.Errorf("%s panics at %.200s: %v", name, pictures(arguments, false), p)
+		}
+	}()
+	complain := func(what string) { t.Errorf("%s %s: %.200s", name, what, pictures(arguments, false)) }
+	given := copies(arguments, 3)
+	before := pictures(given, true)
+	results := f.Call(given)
+	first := pictures(results, false)
+	if pictures(given, true) != before {
+		complain("modifies an argument")
+	}
+	last := results[len(results)-1]
+	if last.Kind() == reflect.Bool && !last.Bool() {
+		for _, v := range results {
+			if !isNothing(v) {
+				complain("fails with a result")
+			}
+		}
+	}
+	var spans []span
+	for _, v := range append(slices.Clone(given), results...) {
+		spans = append(spans, spansOf(v)...)
+	}
+	if !isApart(spans) {
+		complain("shares memory")
+	}
+	scribbleAll(results)
+	if pictures(given, true) != before {
+		complain("hands out an argument's memory")
+	}
+	if pictures(f.Call(given), false) != first {
+		complain("has another result the second time")
+	}
+	if pictures(f.Call(copies(arguments, 0)), false) != first {
+		complain("depends on a spare capacity")
+	}
+}
+
+func TestEachFunctionIsTotal(t *testing.T) {
+	all := choices()
+	for name, function := range landed() {
+		f := reflect.ValueOf(function)
+		var try func(arguments []reflect.Value)
+		try = func(arguments []reflect.Value) {
+			if len(arguments) == f.Type().NumIn() {
+				checkCall(t, name, f, arguments)
+				return
+			}
+			for _, v := range all[f.Type().In(len(arguments))] {
+				try(append(slices.Clone(arguments), v))
+			}
+		}
+		try(nil)
+	}
+}
+
+func TestHugeArguments(t *testing.T) {
+	huge := filled(1000000, 0)
+	g := modelOf(3, true).graph()
+	x, ok := impl.PressWord(g, 1, huge)
+	wantNoNumber(t, "a word of a million buttons", x, ok)
+	h, ok := impl.RenameGraph(g, huge)
+	wantNoGraph(t, "a million names", h, ok)
+	h, ok = impl.GraphOf(3, slices.Repeat([][]int{{0, 1}}, 1000000), true)
+	wantNoGraph(t, "a million edges", h, ok)
+	h, ok = impl.JoinGraphs(impl.Graph{Near: huge}, impl.Graph{Near: huge})
+	wantNoGraph(t, "a million buttons", h, ok)
+	for _, text := range []string{"0-1,", ",", "-", ":", "9", "+"} {
+		h, ok = impl.ParseGraph("3:" + strings.Repeat(text, 1000000))
+		wantNoGraph(t, "a million times "+text, h, ok)
+		h, ok = impl.ParseGraph(strings.Repeat(text, 1000000))
+		wantNoGraph(t, "a million times "+text+" alone", h, ok)
+	}
+}
+
+// TestResultsAreNew keeps results while other calls are made.
+func TestResultsAreNew(t *testing.T) {
+	g, _ := impl.PathGraph(4, true)
+	h, _ := impl.PathGraph(4, true)
+	edges, _ := impl.EdgesOf(g)
+	degrees, _ := impl.DegreesOf(g)
+	g.Near[0] = 99
+	if !slices.Equal(h.Near, []int{2, 5, 10, 4}) {
+		t.Error("two results share memory:", h)
+	}
+	more, _ := impl.EdgesOf(h)
+	more[0][0] = 99
+	if !slices.EqualFunc(edges, [][]int{{0, 1}, {1, 2}, {2, 3}}, slices.Equal) || !slices.Equal(degrees, []int{1, 2, 2, 1}) {
+		t.Error("a result changes:", edges, degrees)
+	}
+}
