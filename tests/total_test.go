@@ -21,6 +21,10 @@ func landed() map[string]any {
 		"PathGraph": impl.PathGraph, "CircleGraph": impl.CircleGraph, "GridGraph": impl.GridGraph, "TorusGraph": impl.TorusGraph,
 		"FullGraph": impl.FullGraph, "WithOwn": impl.WithOwn, "RenameGraph": impl.RenameGraph, "JoinGraphs": impl.JoinGraphs,
 		"DegreesOf": impl.DegreesOf, "GraphText": impl.GraphText, "ParseGraph": impl.ParseGraph,
+		"RankOf": impl.RankOf, "NullityOf": impl.NullityOf, "QuietBasis": impl.QuietBasis, "IsQuiet": impl.IsQuiet,
+		"QuietPatterns": impl.QuietPatterns, "ImageBasis": impl.ImageBasis, "CanSolve": impl.CanSolve, "SolveBoard": impl.SolveBoard,
+		"WitnessOf": impl.WitnessOf, "CountSolutions": impl.CountSolutions, "LeastSolution": impl.LeastSolution, "AllOn": impl.AllOn,
+		"CountSolvable": impl.CountSolvable, "FarthestBoard": impl.FarthestBoard, "SolutionsBySize": impl.SolutionsBySize, "ReducedSet": impl.ReducedSet,
 	}
 }
 
@@ -45,7 +49,7 @@ func choices() map[reflect.Type][]reflect.Value {
 		add(x)
 	}
 	for _, list := range [][]int{nil, {}, {0}, {1}, {-1}, {0, 1}, {1, 0}, {2, 0, 1}, {0, 1, 2}, {0, 0, 0}, {0, 1, 2, 3}, {16}, {64}, {math.MaxInt}, {math.MinInt, 0}, filled(200, 0), filled(201, 0),
-		{15, 14, 13, 12, 11, 10, 9, 8, 7, 6, 5, 4, 3, 2, 1, 0}} {
+		{15, 14, 13, 12, 11, 10, 9, 8, 7, 6, 5, 4, 3, 2, 1, 0}, {1, 2, 4}, {3, 5}, {3, 65533}, {65535}, {65536}, {2, 1}, {3, 7}} {
 		add(list)
 	}
 	for _, lists := range [][][]int{nil, {}, {nil}, {{}}, {{0}}, {{0, 1}}, {{1, 0}, {0, 1}}, {{0, 1}, {1, 2}}, {{0, 1}, nil}, {{0, 0}}, {{0, 1, 2}}, {{-1, 0}}, {{0, 16}}, {{0, 64}},
@@ -272,6 +276,9 @@ func TestHugeArguments(t *testing.T) {
 	wantNoGraph(t, "a million edges", h, ok)
 	h, ok = impl.JoinGraphs(impl.Graph{Near: huge}, impl.Graph{Near: huge})
 	wantNoGraph(t, "a million buttons", h, ok)
+	x, ok = impl.ReducedSet(huge, 1)
+	wantNoNumber(t, "a million sets", x, ok)
+	wantRefused(t, "a million buttons", impl.Graph{Near: huge}, 0)
 	for _, text := range []string{"0-1,", ",", "-", ":", "9", "+"} {
 		h, ok = impl.ParseGraph("3:" + strings.Repeat(text, 1000000))
 		wantNoGraph(t, "a million times "+text, h, ok)
@@ -294,5 +301,12 @@ func TestResultsAreNew(t *testing.T) {
 	more[0][0] = 99
 	if !slices.EqualFunc(edges, [][]int{{0, 1}, {1, 2}, {2, 3}}, slices.Equal) || !slices.Equal(degrees, []int{1, 2, 2, 1}) {
 		t.Error("a result changes:", edges, degrees)
+	}
+	quiet, _ := impl.QuietBasis(modelOf(2, false).graph())
+	patterns, _ := impl.QuietPatterns(modelOf(2, false).graph())
+	again, _ := impl.QuietBasis(modelOf(2, false).graph())
+	again[0] = 99
+	if !slices.Equal(quiet, []int{1, 2}) || !slices.Equal(patterns, []int{0, 1, 2, 3}) {
+		t.Error("a result changes:", quiet, patterns)
 	}
 }
