@@ -44,8 +44,10 @@ func isMutual(near []int) bool {
 
 func isCount(n int) bool { return n >= 1 && n <= MaxButtons }
 
-// isSet needs no look at the sign: a negative number is never shifted to 0.
-func isSet(g Graph, set int) bool { return set>>len(g.Near) == 0 }
+func isSet(g Graph, set int) bool { return isSetOf(len(g.Near), set) }
+
+// isSetOf needs no look at the sign: a negative number is never shifted to 0.
+func isSetOf(n int, set int) bool { return set>>n == 0 }
 
 func isButton(g Graph, i int) bool { return i >= 0 && i < len(g.Near) }
 

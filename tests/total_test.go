@@ -25,6 +25,9 @@ func landed() map[string]any {
 		"QuietPatterns": impl.QuietPatterns, "ImageBasis": impl.ImageBasis, "CanSolve": impl.CanSolve, "SolveBoard": impl.SolveBoard,
 		"WitnessOf": impl.WitnessOf, "CountSolutions": impl.CountSolutions, "LeastSolution": impl.LeastSolution, "AllOn": impl.AllOn,
 		"CountSolvable": impl.CountSolvable, "FarthestBoard": impl.FarthestBoard, "SolutionsBySize": impl.SolutionsBySize, "ReducedSet": impl.ReducedSet,
+		"ChasePresses": impl.ChasePresses, "ChaseLeft": impl.ChaseLeft, "FirstRowMap": impl.FirstRowMap, "FirstRows": impl.FirstRows,
+		"SolveByChase": impl.SolveByChase, "LastRowTable": impl.LastRowTable, "RowBehind": impl.RowBehind, "RowPeriod": impl.RowPeriod,
+		"QuietRows": impl.QuietRows, "NullityByRows": impl.NullityByRows, "NullitiesByRows": impl.NullitiesByRows, "RowToggles": impl.RowToggles,
 	}
 }
 
@@ -250,19 +253,25 @@ func checkCall(t *testing.T, name string, f reflect.Value, arguments []reflect.V
 func TestEachFunctionIsTotal(t *testing.T) {
 	all := choices()
 	for name, function := range landed() {
-		f := reflect.ValueOf(function)
-		var try func(arguments []reflect.Value)
-		try = func(arguments []reflect.Value) {
-			if len(arguments) == f.Type().NumIn() {
-				checkCall(t, name, f, arguments)
-				return
-			}
-			for _, v := range all[f.Type().In(len(arguments))] {
-				try(append(slices.Clone(arguments), v))
-			}
-		}
-		try(nil)
+		t.Run(name, func(t *testing.T) {
+			t.Parallel()
+			checkAllCalls(t, name, reflect.ValueOf(function), all)
+		})
 	}
+}
+
+func checkAllCalls(t *testing.T, name string, f reflect.Value, all map[reflect.Type][]reflect.Value) {
+	var try func(arguments []reflect.Value)
+	try = func(arguments []reflect.Value) {
+		if len(arguments) == f.Type().NumIn() {
+			checkCall(t, name, f, arguments)
+			return
+		}
+		for _, v := range all[f.Type().In(len(arguments))] {
+			try(append(slices.Clone(arguments), v))
+		}
+	}
+	try(nil)
 }
 
 func TestHugeArguments(t *testing.T) {
@@ -308,5 +317,14 @@ func TestResultsAreNew(t *testing.T) {
 	again[0] = 99
 	if !slices.Equal(quiet, []int{1, 2}) || !slices.Equal(patterns, []int{0, 1, 2, 3}) {
 		t.Error("a result changes:", quiet, patterns)
+	}
+	rows, _ := impl.FirstRowMap(1, 3, true)
+	table, _ := impl.LastRowTable(1, 2, true)
+	again, _ = impl.FirstRowMap(1, 3, true)
+	again[0] = 99
+	again, _ = impl.LastRowTable(1, 2, true)
+	again[0] = 99
+	if !slices.Equal(rows, []int{3, 7, 6}) || !slices.Equal(table, []int{0, -1, -1, 1}) {
+		t.Error("a result changes:", rows, table)
 	}
 }
