@@ -223,18 +223,24 @@ func TestParseGraphAllShort(t *testing.T) {
 	}
 }
 
-// TestParseGraphChanged parses texts of graphs in which one byte is changed, put in or left out.
-func TestParseGraphChanged(t *testing.T) {
-	for _, text := range []string{"3+:0-1,1-2", "4:0-1,0-3,1-2,2-3", "12:2-3,2-10,3-4", "16+:-"} {
-		for k := range len(text) + 1 {
-			for b := range 256 {
-				checkText(t, text[:k]+string([]byte{byte(b)})+text[k:])
-				if k < len(text) {
-					checkText(t, text[:k]+string([]byte{byte(b)})+text[k+1:])
-					checkText(t, text[:k]+text[k+1:])
-				}
+// eachChange gives the texts in which one byte of a text is changed, put in or left out.
+func eachChange(text string, do func(changed string)) {
+	for k := range len(text) + 1 {
+		for b := range 256 {
+			do(text[:k] + string([]byte{byte(b)}) + text[k:])
+			if k < len(text) {
+				do(text[:k] + string([]byte{byte(b)}) + text[k+1:])
 			}
 		}
+		if k < len(text) {
+			do(text[:k] + text[k+1:])
+		}
+	}
+}
+
+func TestParseGraphChanged(t *testing.T) {
+	for _, text := range []string{"3+:0-1,1-2", "4:0-1,0-3,1-2,2-3", "12:2-3,2-10,3-4", "16+:-"} {
+		eachChange(text, func(s string) { checkText(t, s) })
 	}
 }
 

@@ -2,6 +2,7 @@ package tests
 
 import (
 	"fmt"
+	"maps"
 	"math"
 	"reflect"
 	"slices"
@@ -28,6 +29,10 @@ func landed() map[string]any {
 		"ChasePresses": impl.ChasePresses, "ChaseLeft": impl.ChaseLeft, "FirstRowMap": impl.FirstRowMap, "FirstRows": impl.FirstRows,
 		"SolveByChase": impl.SolveByChase, "LastRowTable": impl.LastRowTable, "RowBehind": impl.RowBehind, "RowPeriod": impl.RowPeriod,
 		"QuietRows": impl.QuietRows, "NullityByRows": impl.NullityByRows, "NullitiesByRows": impl.NullitiesByRows, "RowToggles": impl.RowToggles,
+		"DegreeOf": impl.DegreeOf, "TimesPoly": impl.TimesPoly, "DividePoly": impl.DividePoly, "GcdPoly": impl.GcdPoly,
+		"PowerModulo": impl.PowerModulo, "ShiftPoly": impl.ShiftPoly, "ReversedPoly": impl.ReversedPoly, "DerivativeOf": impl.DerivativeOf,
+		"IsIrreducible": impl.IsIrreducible, "FactorsOf": impl.FactorsOf, "OrderOfPoly": impl.OrderOfPoly, "FibonacciPoly": impl.FibonacciPoly,
+		"FirstFibonacci": impl.FirstFibonacci, "PolyText": impl.PolyText, "ParsePoly": impl.ParsePoly,
 	}
 }
 
@@ -59,7 +64,8 @@ func choices() map[reflect.Type][]reflect.Value {
 		{{math.MinInt, math.MaxInt}}, slices.Repeat([][]int{{0, 1}}, 200), slices.Repeat([][]int{{0, 1}}, 201)} {
 		add(lists)
 	}
-	for _, s := range []string{"", ":", "3+:0-1,1-2", "1:-", "16:0-15", "17:-", "3:0-3", "3:1-0", "-", "+", "3", "3:", "\x00", "\xff:\xff-\xff", "99999999999999999999:-", strings.Repeat("9", 3000), strings.Repeat("1:0-1,", 900)} {
+	for _, s := range []string{"", ":", "3+:0-1,1-2", "1:-", "16:0-15", "17:-", "3:0-3", "3:1-0", "-", "+", "3", "3:", "\x00", "\xff:\xff-\xff", "99999999999999999999:-", strings.Repeat("9", 3000), strings.Repeat("1:0-1,", 900),
+		"0", "1", "x", "x2+x+1", "x40", "x41", "x-1", "x1", "+x", "x+", "x99999999999999999999", strings.Repeat("x2+", 900) + "1"} {
 		add(s)
 	}
 	add(false)
@@ -250,12 +256,32 @@ func checkCall(t *testing.T, name string, f reflect.Value, arguments []reflect.V
 	}
 }
 
+// manyNumbers gives numbers at the limits of the chapters, more than functions with many arguments have time for.
+func manyNumbers() []reflect.Value {
+	list := []reflect.Value{}
+	for k := range 63 {
+		for _, x := range []int{power(k), power(k) - 1, power(k) + 1, -power(k)} {
+			list = append(list, reflect.ValueOf(x))
+		}
+	}
+	for _, x := range []int{0, 6, 10, 11, 12, 19, 20, 21, 39, 40, 41, 42, 43, 199, 200, 201, 999999, 1000000, 1000001, math.MaxInt, math.MinInt, math.MinInt + 1} {
+		list = append(list, reflect.ValueOf(x))
+	}
+	return list
+}
+
 func TestEachFunctionIsTotal(t *testing.T) {
-	all := choices()
+	few := choices()
+	many := maps.Clone(few)
+	many[reflect.TypeFor[int]()] = manyNumbers()
 	for name, function := range landed() {
+		f := reflect.ValueOf(function)
 		t.Run(name, func(t *testing.T) {
 			t.Parallel()
-			checkAllCalls(t, name, reflect.ValueOf(function), all)
+			checkAllCalls(t, name, f, few)
+			if f.Type().NumIn() <= 2 {
+				checkAllCalls(t, name, f, many)
+			}
 		})
 	}
 }
@@ -294,6 +320,12 @@ func TestHugeArguments(t *testing.T) {
 		h, ok = impl.ParseGraph(strings.Repeat(text, 1000000))
 		wantNoGraph(t, "a million times "+text+" alone", h, ok)
 	}
+	for _, text := range []string{"x2+", "+", "x", "0+", "1+", "2", "x1+"} {
+		x, ok = impl.ParsePoly(strings.Repeat(text, 1000000))
+		wantNoNumber(t, "a million times "+text, x, ok)
+		x, ok = impl.ParsePoly(strings.Repeat(text, 1000000) + "1")
+		wantNoNumber(t, "a million times "+text+" and 1", x, ok)
+	}
 }
 
 // TestResultsAreNew keeps results while other calls are made.
@@ -326,5 +358,11 @@ func TestResultsAreNew(t *testing.T) {
 	again[0] = 99
 	if !slices.Equal(rows, []int{3, 7, 6}) || !slices.Equal(table, []int{0, -1, -1, 1}) {
 		t.Error("a result changes:", rows, table)
+	}
+	factors, _ := impl.FactorsOf(30)
+	again, _ = impl.FactorsOf(30)
+	again[0] = 99
+	if !slices.Equal(factors, []int{2, 3, 3, 3}) {
+		t.Error("a result changes:", factors)
 	}
 }
