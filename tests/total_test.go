@@ -33,6 +33,10 @@ func landed() map[string]any {
 		"PowerModulo": impl.PowerModulo, "ShiftPoly": impl.ShiftPoly, "ReversedPoly": impl.ReversedPoly, "DerivativeOf": impl.DerivativeOf,
 		"IsIrreducible": impl.IsIrreducible, "FactorsOf": impl.FactorsOf, "OrderOfPoly": impl.OrderOfPoly, "FibonacciPoly": impl.FibonacciPoly,
 		"FirstFibonacci": impl.FirstFibonacci, "PolyText": impl.PolyText, "ParsePoly": impl.ParsePoly,
+		"DegreesWithin": impl.DegreesWithin, "IsEvenSet": impl.IsEvenSet, "IsOddSet": impl.IsOddSet, "EvenSplit": impl.EvenSplit, "EvenOddSplit": impl.EvenOddSplit,
+		"CountEvenSplits": impl.CountEvenSplits, "CountEvenOdd": impl.CountEvenOdd, "EvenSplits": impl.EvenSplits, "OddDominating": impl.OddDominating,
+		"CountOddDominating": impl.CountOddDominating, "PartsOf": impl.PartsOf, "CutOf": impl.CutOf, "IsEvenEdges": impl.IsEvenEdges,
+		"CountEvenCuts": impl.CountEvenCuts, "CountEvenEdges": impl.CountEvenEdges,
 	}
 }
 
@@ -60,7 +64,7 @@ func choices() map[reflect.Type][]reflect.Value {
 		{15, 14, 13, 12, 11, 10, 9, 8, 7, 6, 5, 4, 3, 2, 1, 0}, {1, 2, 4}, {3, 5}, {3, 65533}, {65535}, {65536}, {2, 1}, {3, 7}} {
 		add(list)
 	}
-	for _, lists := range [][][]int{nil, {}, {nil}, {{}}, {{0}}, {{0, 1}}, {{1, 0}, {0, 1}}, {{0, 1}, {1, 2}}, {{0, 1}, nil}, {{0, 0}}, {{0, 1, 2}}, {{-1, 0}}, {{0, 16}}, {{0, 64}},
+	for _, lists := range [][][]int{nil, {}, {nil}, {{}}, {{0}}, {{0, 1}}, {{1, 0}, {0, 1}}, {{0, 1}, {1, 2}}, {{0, 2}, {1, 2}, {0, 1}}, {{0, 15}}, {{0, 1}, nil}, {{0, 0}}, {{0, 1, 2}}, {{-1, 0}}, {{0, 16}}, {{0, 64}},
 		{{math.MinInt, math.MaxInt}}, slices.Repeat([][]int{{0, 1}}, 200), slices.Repeat([][]int{{0, 1}}, 201)} {
 		add(lists)
 	}
@@ -309,6 +313,13 @@ func TestHugeArguments(t *testing.T) {
 	wantNoGraph(t, "a million names", h, ok)
 	h, ok = impl.GraphOf(3, slices.Repeat([][]int{{0, 1}}, 1000000), true)
 	wantNoGraph(t, "a million edges", h, ok)
+	answer, ok := impl.IsEvenEdges(g, slices.Repeat([][]int{{0, 1}}, 1000000))
+	wantNoAnswer(t, "a million edges", answer, ok)
+	for name, call := range splitCalls() {
+		list, ok := call(impl.Graph{Near: huge})
+		wantNoList(t, name+" of a million buttons", list, ok)
+	}
+	wantNoSet(t, "a million buttons", impl.Graph{Near: huge}, 0)
 	h, ok = impl.JoinGraphs(impl.Graph{Near: huge}, impl.Graph{Near: huge})
 	wantNoGraph(t, "a million buttons", h, ok)
 	x, ok = impl.ReducedSet(huge, 1)
@@ -358,6 +369,19 @@ func TestResultsAreNew(t *testing.T) {
 	again[0] = 99
 	if !slices.Equal(rows, []int{3, 7, 6}) || !slices.Equal(table, []int{0, -1, -1, 1}) {
 		t.Error("a result changes:", rows, table)
+	}
+	path, _ := impl.PathGraph(3, true)
+	cut, _ := impl.CutOf(path, 2)
+	more, _ = impl.CutOf(path, 2)
+	more[0][0], more[1] = 99, nil
+	splits, _ := impl.EvenSplits(path)
+	again, _ = impl.EvenSplits(path)
+	again[0] = 99
+	parts, _ := impl.PartsOf(path)
+	again, _ = impl.PartsOf(path)
+	again[0] = 99
+	if !slices.EqualFunc(cut, [][]int{{0, 1}, {1, 2}}, slices.Equal) || !slices.Equal(splits, []int{2, 5}) || !slices.Equal(parts, []int{7}) {
+		t.Error("a result changes:", cut, splits, parts)
 	}
 	factors, _ := impl.FactorsOf(30)
 	again, _ = impl.FactorsOf(30)
