@@ -37,6 +37,9 @@ func landed() map[string]any {
 		"CountEvenSplits": impl.CountEvenSplits, "CountEvenOdd": impl.CountEvenOdd, "EvenSplits": impl.EvenSplits, "OddDominating": impl.OddDominating,
 		"CountOddDominating": impl.CountOddDominating, "PartsOf": impl.PartsOf, "CutOf": impl.CutOf, "IsEvenEdges": impl.IsEvenEdges,
 		"CountEvenCuts": impl.CountEvenCuts, "CountEvenEdges": impl.CountEvenEdges,
+		"IsForest": impl.IsForest, "ParentsOf": impl.ParentsOf, "FromParents": impl.FromParents, "StarGraph": impl.StarGraph, "BinaryTree": impl.BinaryTree,
+		"LeavesOf": impl.LeavesOf, "CountByStates": impl.CountByStates, "LeastByStates": impl.LeastByStates, "NullityByStates": impl.NullityByStates,
+		"MatchingOf": impl.MatchingOf, "MatchingSize": impl.MatchingSize, "PathNullity": impl.PathNullity, "CircleNullity": impl.CircleNullity, "SolvePath": impl.SolvePath,
 	}
 }
 
@@ -44,6 +47,7 @@ func goodGraphs() []impl.Graph {
 	return []impl.Graph{
 		modelOf(1, false).graph(), modelOf(1, true).graph(), modelOf(2, true, [2]int{0, 1}).graph(), modelOf(3, false).graph(),
 		modelOf(3, true, [2]int{0, 1}, [2]int{1, 2}).graph(), modelOf(16, false, [2]int{0, 15}).graph(), fullModel(16, true).graph(),
+		starModel(16, 7, true).graph(), gridModel(1, 5, true, true).graph(),
 	}
 }
 
@@ -61,7 +65,7 @@ func choices() map[reflect.Type][]reflect.Value {
 		add(x)
 	}
 	for _, list := range [][]int{nil, {}, {0}, {1}, {-1}, {0, 1}, {1, 0}, {2, 0, 1}, {0, 1, 2}, {0, 0, 0}, {0, 1, 2, 3}, {16}, {64}, {math.MaxInt}, {math.MinInt, 0}, filled(200, 0), filled(201, 0),
-		{15, 14, 13, 12, 11, 10, 9, 8, 7, 6, 5, 4, 3, 2, 1, 0}, {1, 2, 4}, {3, 5}, {3, 65533}, {65535}, {65536}, {2, 1}, {3, 7}} {
+		{15, 14, 13, 12, 11, 10, 9, 8, 7, 6, 5, 4, 3, 2, 1, 0}, {1, 2, 4}, {3, 5}, {3, 65533}, {65535}, {65536}, {2, 1}, {3, 7}, {-1, 0, 1}, {-1, -1, 0}, {-1, 1}, filled(16, -1), filled(17, -1)} {
 		add(list)
 	}
 	for _, lists := range [][][]int{nil, {}, {nil}, {{}}, {{0}}, {{0, 1}}, {{1, 0}, {0, 1}}, {{0, 1}, {1, 2}}, {{0, 2}, {1, 2}, {0, 1}}, {{0, 15}}, {{0, 1}, nil}, {{0, 0}}, {{0, 1, 2}}, {{-1, 0}}, {{0, 16}}, {{0, 64}},
@@ -320,6 +324,11 @@ func TestHugeArguments(t *testing.T) {
 		wantNoList(t, name+" of a million buttons", list, ok)
 	}
 	wantNoSet(t, "a million buttons", impl.Graph{Near: huge}, 0)
+	answer, ok = impl.IsForest(impl.Graph{Near: huge})
+	wantNoAnswer(t, "a million buttons", answer, ok)
+	wantNoForest(t, "a million buttons", impl.Graph{Near: huge}, 0)
+	h, ok = impl.FromParents(filled(1000000, -1), true)
+	wantNoGraph(t, "a million parents", h, ok)
 	h, ok = impl.JoinGraphs(impl.Graph{Near: huge}, impl.Graph{Near: huge})
 	wantNoGraph(t, "a million buttons", h, ok)
 	x, ok = impl.ReducedSet(huge, 1)
@@ -382,6 +391,15 @@ func TestResultsAreNew(t *testing.T) {
 	again[0] = 99
 	if !slices.EqualFunc(cut, [][]int{{0, 1}, {1, 2}}, slices.Equal) || !slices.Equal(splits, []int{2, 5}) || !slices.Equal(parts, []int{7}) {
 		t.Error("a result changes:", cut, splits, parts)
+	}
+	parents, _ := impl.ParentsOf(path)
+	again, _ = impl.ParentsOf(path)
+	again[0] = 99
+	matching, _ := impl.MatchingOf(path)
+	more, _ = impl.MatchingOf(path)
+	more[0][0] = 99
+	if !slices.Equal(parents, []int{-1, 0, 1}) || !slices.EqualFunc(matching, [][]int{{1, 2}}, slices.Equal) {
+		t.Error("a result changes:", parents, matching)
 	}
 	factors, _ := impl.FactorsOf(30)
 	again, _ = impl.FactorsOf(30)
