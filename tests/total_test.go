@@ -40,6 +40,9 @@ func landed() map[string]any {
 		"IsForest": impl.IsForest, "ParentsOf": impl.ParentsOf, "FromParents": impl.FromParents, "StarGraph": impl.StarGraph, "BinaryTree": impl.BinaryTree,
 		"LeavesOf": impl.LeavesOf, "CountByStates": impl.CountByStates, "LeastByStates": impl.LeastByStates, "NullityByStates": impl.NullityByStates,
 		"MatchingOf": impl.MatchingOf, "MatchingSize": impl.MatchingSize, "PathNullity": impl.PathNullity, "CircleNullity": impl.CircleNullity, "SolvePath": impl.SolvePath,
+		"IsColours": impl.IsColours, "EffectColours": impl.EffectColours, "PressColours": impl.PressColours, "RankColours": impl.RankColours, "NullityColours": impl.NullityColours,
+		"QuietColours": impl.QuietColours, "SolveColours": impl.SolveColours, "WitnessColours": impl.WitnessColours, "CountColourSolutions": impl.CountColourSolutions,
+		"DeterminantColours": impl.DeterminantColours, "AllAtOnce": impl.AllAtOnce, "PeriodOf": impl.PeriodOf, "ColoursText": impl.ColoursText, "ParseColours": impl.ParseColours,
 	}
 }
 
@@ -47,7 +50,7 @@ func goodGraphs() []impl.Graph {
 	return []impl.Graph{
 		modelOf(1, false).graph(), modelOf(1, true).graph(), modelOf(2, true, [2]int{0, 1}).graph(), modelOf(3, false).graph(),
 		modelOf(3, true, [2]int{0, 1}, [2]int{1, 2}).graph(), modelOf(16, false, [2]int{0, 15}).graph(), fullModel(16, true).graph(),
-		starModel(16, 7, true).graph(), gridModel(1, 5, true, true).graph(),
+		starModel(16, 7, true).graph(), gridModel(1, 5, true, true).graph(), fullModel(10, true).graph(), modelOf(11, false).graph(),
 	}
 }
 
@@ -65,7 +68,7 @@ func choices() map[reflect.Type][]reflect.Value {
 		add(x)
 	}
 	for _, list := range [][]int{nil, {}, {0}, {1}, {-1}, {0, 1}, {1, 0}, {2, 0, 1}, {0, 1, 2}, {0, 0, 0}, {0, 1, 2, 3}, {16}, {64}, {math.MaxInt}, {math.MinInt, 0}, filled(200, 0), filled(201, 0),
-		{15, 14, 13, 12, 11, 10, 9, 8, 7, 6, 5, 4, 3, 2, 1, 0}, {1, 2, 4}, {3, 5}, {3, 65533}, {65535}, {65536}, {2, 1}, {3, 7}, {-1, 0, 1}, {-1, -1, 0}, {-1, 1}, filled(16, -1), filled(17, -1)} {
+		{15, 14, 13, 12, 11, 10, 9, 8, 7, 6, 5, 4, 3, 2, 1, 0}, {1, 2, 4}, {3, 5}, {3, 65533}, {65535}, {65536}, {2, 1}, {3, 7}, {-1, 0, 1}, {-1, -1, 0}, {-1, 1}, filled(16, -1), filled(17, -1), filled(10, 1), filled(11, 0)} {
 		add(list)
 	}
 	for _, lists := range [][][]int{nil, {}, {nil}, {{}}, {{0}}, {{0, 1}}, {{1, 0}, {0, 1}}, {{0, 1}, {1, 2}}, {{0, 2}, {1, 2}, {0, 1}}, {{0, 15}}, {{0, 1}, nil}, {{0, 0}}, {{0, 1, 2}}, {{-1, 0}}, {{0, 16}}, {{0, 64}},
@@ -73,7 +76,7 @@ func choices() map[reflect.Type][]reflect.Value {
 		add(lists)
 	}
 	for _, s := range []string{"", ":", "3+:0-1,1-2", "1:-", "16:0-15", "17:-", "3:0-3", "3:1-0", "-", "+", "3", "3:", "\x00", "\xff:\xff-\xff", "99999999999999999999:-", strings.Repeat("9", 3000), strings.Repeat("1:0-1,", 900),
-		"0", "1", "x", "x2+x+1", "x40", "x41", "x-1", "x1", "+x", "x+", "x99999999999999999999", strings.Repeat("x2+", 900) + "1"} {
+		"0", "1", "x", "x2+x+1", "x40", "x41", "x-1", "x1", "+x", "x+", "x99999999999999999999", strings.Repeat("x2+", 900) + "1", "120", "0123456789", "01234567890", "12a"} {
 		add(s)
 	}
 	add(false)
@@ -278,6 +281,22 @@ func manyNumbers() []reflect.Value {
 	return list
 }
 
+// fewer leaves out most values that are no graphs, and the numbers between small and extreme ones, for functions that take so many lists beside a graph that there is no time for all of them.
+func fewer(few map[reflect.Type][]reflect.Value) map[reflect.Type][]reflect.Value {
+	left := maps.Clone(few)
+	number, graph := reflect.TypeFor[int](), reflect.TypeFor[impl.Graph]()
+	left[number] = slices.DeleteFunc(slices.Clone(few[number]), func(v reflect.Value) bool {
+		x := v.Int()
+		return (x > 17 || x < -17) && x != math.MaxInt && x != math.MinInt
+	})
+	good := len(goodGraphs())
+	left[graph] = slices.Clone(few[graph][:good])
+	for k := good; k < len(few[graph]); k += 9 {
+		left[graph] = append(left[graph], few[graph][k])
+	}
+	return left
+}
+
 func TestEachFunctionIsTotal(t *testing.T) {
 	few := choices()
 	many := maps.Clone(few)
@@ -286,7 +305,11 @@ func TestEachFunctionIsTotal(t *testing.T) {
 		f := reflect.ValueOf(function)
 		t.Run(name, func(t *testing.T) {
 			t.Parallel()
-			checkAllCalls(t, name, f, few)
+			all := few
+			if f.Type().NumIn() > 3 && f.Type().In(0) == reflect.TypeFor[impl.Graph]() {
+				all = fewer(few)
+			}
+			checkAllCalls(t, name, f, all)
 			if f.Type().NumIn() <= 2 {
 				checkAllCalls(t, name, f, many)
 			}
@@ -329,6 +352,21 @@ func TestHugeArguments(t *testing.T) {
 	wantNoForest(t, "a million buttons", impl.Graph{Near: huge}, 0)
 	h, ok = impl.FromParents(filled(1000000, -1), true)
 	wantNoGraph(t, "a million parents", h, ok)
+	wantNoColours(t, "a million buttons", impl.Graph{Near: huge}, 3, huge)
+	answer, ok = impl.IsColours(g, 3, huge)
+	wantAnswer(t, "a million colours", answer, ok, false)
+	for _, name := range listCalls() {
+		list, ok := colourCalls()[name](g, 3, huge)
+		wantNoList(t, name+" of a million colours", list, ok)
+	}
+	list, ok := impl.PressColours(g, 3, filled(3, 0), huge)
+	wantNoList(t, "a word of a million buttons", list, ok)
+	x, ok = impl.PeriodOf(g, 3, huge)
+	wantNoNumber(t, "a word of a million buttons", x, ok)
+	text, ok := impl.ColoursText(huge)
+	wantNoText(t, "a million colours", text, ok)
+	list, ok = impl.ParseColours(strings.Repeat("0", 1000000))
+	wantNoList(t, "a million digits", list, ok)
 	h, ok = impl.JoinGraphs(impl.Graph{Near: huge}, impl.Graph{Near: huge})
 	wantNoGraph(t, "a million buttons", h, ok)
 	x, ok = impl.ReducedSet(huge, 1)
@@ -400,6 +438,15 @@ func TestResultsAreNew(t *testing.T) {
 	more[0][0] = 99
 	if !slices.Equal(parents, []int{-1, 0, 1}) || !slices.EqualFunc(matching, [][]int{{1, 2}}, slices.Equal) {
 		t.Error("a result changes:", parents, matching)
+	}
+	colours, _ := impl.QuietColours(modelOf(2, false).graph(), 3)
+	more, _ = impl.QuietColours(modelOf(2, false).graph(), 3)
+	more[0][0], more[1] = 99, nil
+	effect, _ := impl.EffectColours(path, 3, []int{1, 0, 0})
+	again, _ = impl.EffectColours(path, 3, []int{1, 0, 0})
+	again[0] = 99
+	if !slices.EqualFunc(colours, [][]int{{1, 0}, {0, 1}}, slices.Equal) || !slices.Equal(effect, []int{1, 1, 0}) {
+		t.Error("a result changes:", colours, effect)
 	}
 	factors, _ := impl.FactorsOf(30)
 	again, _ = impl.FactorsOf(30)
