@@ -43,6 +43,9 @@ func landed() map[string]any {
 		"IsColours": impl.IsColours, "EffectColours": impl.EffectColours, "PressColours": impl.PressColours, "RankColours": impl.RankColours, "NullityColours": impl.NullityColours,
 		"QuietColours": impl.QuietColours, "SolveColours": impl.SolveColours, "WitnessColours": impl.WitnessColours, "CountColourSolutions": impl.CountColourSolutions,
 		"DeterminantColours": impl.DeterminantColours, "AllAtOnce": impl.AllAtOnce, "PeriodOf": impl.PeriodOf, "ColoursText": impl.ColoursText, "ParseColours": impl.ParseColours,
+		"ProductGraph": impl.ProductGraph, "ToggleMap": impl.ToggleMap, "ApplyMap": impl.ApplyMap, "ComposeMaps": impl.ComposeMaps, "AddMaps": impl.AddMaps, "MapOfPoly": impl.MapOfPoly,
+		"NullityOfMap": impl.NullityOfMap, "MinimalPoly": impl.MinimalPoly, "PathProduct": impl.PathProduct, "CircleProduct": impl.CircleProduct,
+		"GridNullity": impl.GridNullity, "GridTable": impl.GridTable, "TorusNullity": impl.TorusNullity,
 	}
 }
 
@@ -68,7 +71,7 @@ func choices() map[reflect.Type][]reflect.Value {
 		add(x)
 	}
 	for _, list := range [][]int{nil, {}, {0}, {1}, {-1}, {0, 1}, {1, 0}, {2, 0, 1}, {0, 1, 2}, {0, 0, 0}, {0, 1, 2, 3}, {16}, {64}, {math.MaxInt}, {math.MinInt, 0}, filled(200, 0), filled(201, 0),
-		{15, 14, 13, 12, 11, 10, 9, 8, 7, 6, 5, 4, 3, 2, 1, 0}, {1, 2, 4}, {3, 5}, {3, 65533}, {65535}, {65536}, {2, 1}, {3, 7}, {-1, 0, 1}, {-1, -1, 0}, {-1, 1}, filled(16, -1), filled(17, -1), filled(10, 1), filled(11, 0)} {
+		{15, 14, 13, 12, 11, 10, 9, 8, 7, 6, 5, 4, 3, 2, 1, 0}, {1, 2, 4}, {3, 5}, {3, 65533}, {65535}, {65536}, {2, 1}, {3, 7}, {-1, 0, 1}, {-1, -1, 0}, {-1, 1}, filled(16, -1), filled(17, -1), filled(10, 1), filled(11, 0), {3, 3}, {2, 4, 1}, {8, 1, 2, 4}, filled(16, 65535), filled(16, 65536)} {
 		add(list)
 	}
 	for _, lists := range [][][]int{nil, {}, {nil}, {{}}, {{0}}, {{0, 1}}, {{1, 0}, {0, 1}}, {{0, 1}, {1, 2}}, {{0, 2}, {1, 2}, {0, 1}}, {{0, 15}}, {{0, 1}, nil}, {{0, 0}}, {{0, 1, 2}}, {{-1, 0}}, {{0, 16}}, {{0, 64}},
@@ -367,6 +370,12 @@ func TestHugeArguments(t *testing.T) {
 	wantNoText(t, "a million colours", text, ok)
 	list, ok = impl.ParseColours(strings.Repeat("0", 1000000))
 	wantNoList(t, "a million digits", list, ok)
+	wantNoMap(t, "a million sets", huge)
+	list, ok = impl.ToggleMap(impl.Graph{Near: huge})
+	wantNoList(t, "a million buttons", list, ok)
+	wantNoLine(t, "a million buttons", impl.Graph{Near: huge}, 3)
+	h, ok = impl.ProductGraph(impl.Graph{Near: huge}, impl.Graph{Near: huge})
+	wantNoGraph(t, "a million buttons", h, ok)
 	h, ok = impl.JoinGraphs(impl.Graph{Near: huge}, impl.Graph{Near: huge})
 	wantNoGraph(t, "a million buttons", h, ok)
 	x, ok = impl.ReducedSet(huge, 1)
@@ -447,6 +456,18 @@ func TestResultsAreNew(t *testing.T) {
 	again[0] = 99
 	if !slices.EqualFunc(colours, [][]int{{1, 0}, {0, 1}}, slices.Equal) || !slices.Equal(effect, []int{1, 1, 0}) {
 		t.Error("a result changes:", colours, effect)
+	}
+	toggled, _ := impl.ToggleMap(path)
+	again, _ = impl.ToggleMap(path)
+	again[0] = 99
+	both, _ := impl.ComposeMaps(toggled, toggled)
+	again, _ = impl.MapOfPoly(toggled, 2)
+	again[0] = 99
+	single, _ := impl.GridTable(3, true)
+	again, _ = impl.GridTable(3, true)
+	again[0] = 99
+	if !slices.Equal(toggled, []int{3, 7, 6}) || !slices.Equal(both, []int{4, 2, 1}) || !slices.Equal(single, []int{0, 2, 0}) {
+		t.Error("a result changes:", toggled, both, single)
 	}
 	factors, _ := impl.FactorsOf(30)
 	again, _ = impl.FactorsOf(30)
