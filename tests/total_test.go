@@ -46,6 +46,9 @@ func landed() map[string]any {
 		"ProductGraph": impl.ProductGraph, "ToggleMap": impl.ToggleMap, "ApplyMap": impl.ApplyMap, "ComposeMaps": impl.ComposeMaps, "AddMaps": impl.AddMaps, "MapOfPoly": impl.MapOfPoly,
 		"NullityOfMap": impl.NullityOfMap, "MinimalPoly": impl.MinimalPoly, "PathProduct": impl.PathProduct, "CircleProduct": impl.CircleProduct,
 		"GridNullity": impl.GridNullity, "GridTable": impl.GridTable, "TorusNullity": impl.TorusNullity,
+		"LitPress": impl.LitPress, "LitWord": impl.LitWord, "LitMoves": impl.LitMoves, "ReachOf": impl.ReachOf, "FewestLit": impl.FewestLit, "WayTo": impl.WayTo,
+		"CountOrbits": impl.CountOrbits, "OrbitSizes": impl.OrbitSizes, "LeastLights": impl.LeastLights, "FormOf": impl.FormOf, "ReflectSet": impl.ReflectSet,
+		"ReflectWord": impl.ReflectWord, "ReflectOrbit": impl.ReflectOrbit, "FormSpread": impl.FormSpread, "FormOfLights": impl.FormOfLights,
 	}
 }
 
@@ -54,6 +57,7 @@ func goodGraphs() []impl.Graph {
 		modelOf(1, false).graph(), modelOf(1, true).graph(), modelOf(2, true, [2]int{0, 1}).graph(), modelOf(3, false).graph(),
 		modelOf(3, true, [2]int{0, 1}, [2]int{1, 2}).graph(), modelOf(16, false, [2]int{0, 15}).graph(), fullModel(16, true).graph(),
 		starModel(16, 7, true).graph(), gridModel(1, 5, true, true).graph(), fullModel(10, true).graph(), modelOf(11, false).graph(),
+		gridModel(3, 3, true, false).graph(),
 	}
 }
 
@@ -374,6 +378,11 @@ func TestHugeArguments(t *testing.T) {
 	list, ok = impl.ToggleMap(impl.Graph{Near: huge})
 	wantNoList(t, "a million buttons", list, ok)
 	wantNoLine(t, "a million buttons", impl.Graph{Near: huge}, 3)
+	wantNoLitGraph(t, "a million buttons", impl.Graph{Near: huge})
+	x, ok = impl.LitWord(g, 1, huge)
+	wantNoNumber(t, "a word of a million lit buttons", x, ok)
+	x, ok = impl.ReflectWord(g, 1, huge)
+	wantNoNumber(t, "a word of a million buttons", x, ok)
 	h, ok = impl.ProductGraph(impl.Graph{Near: huge}, impl.Graph{Near: huge})
 	wantNoGraph(t, "a million buttons", h, ok)
 	h, ok = impl.JoinGraphs(impl.Graph{Near: huge}, impl.Graph{Near: huge})
@@ -468,6 +477,18 @@ func TestResultsAreNew(t *testing.T) {
 	again[0] = 99
 	if !slices.Equal(toggled, []int{3, 7, 6}) || !slices.Equal(both, []int{4, 2, 1}) || !slices.Equal(single, []int{0, 2, 0}) {
 		t.Error("a result changes:", toggled, both, single)
+	}
+	reached, _ := impl.ReachOf(path, 1)
+	again, _ = impl.ReachOf(path, 1)
+	again[0] = 99
+	way, _ := impl.WayTo(path, 1, 4)
+	again, _ = impl.WayTo(path, 1, 4)
+	again[0] = 99
+	sizes, _ := impl.OrbitSizes(path)
+	again, _ = impl.OrbitSizes(path)
+	again[0] = 99
+	if !slices.Equal(reached, []int{1, 3, 4, 6}) || !slices.Equal(way, []int{0, 1, 2}) || !slices.Equal(sizes, []int{1, 3, 4}) {
+		t.Error("a result changes:", reached, way, sizes)
 	}
 	factors, _ := impl.FactorsOf(30)
 	again, _ = impl.FactorsOf(30)
